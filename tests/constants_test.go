@@ -1,0 +1,26 @@
+package tests
+
+import (
+	"testing"
+
+	"loop.example/g00691/impl"
+)
+
+func TestConstantsOfTheFirstChapter(t *testing.T) {
+	codes := []int64{impl.OK, impl.ErrForm, impl.ErrMany, impl.ErrRange, impl.ErrNone, impl.ErrText, impl.ErrTaken, impl.ErrFull, impl.ErrState}
+	for number, code := range codes {
+		if code != int64(number) {
+			t.Errorf("the code number %d is %d", number, code)
+		}
+	}
+	kinds := []int64{impl.KindFree, impl.KindNode, impl.KindData, impl.KindGone}
+	for number, kind := range kinds {
+		if kind != int64(number) {
+			t.Errorf("the kind number %d is %d", number, kind)
+		}
+	}
+	bounds := [4]int64{impl.MaxUid, impl.MaxIndex, impl.MaxEpoch, impl.MaxDepth}
+	if bounds != [4]int64{999, 3, 9999, 4} {
+		t.Errorf("the bounds are %d", bounds)
+	}
+}
