@@ -47,6 +47,8 @@ type HeadResult struct {
 	Head Head
 }
 
+const wordBound = 1000000000000000
+
 const nameBase = 27
 const maxNameBytes = 6
 const maxNameWord = nameBase*nameBase*nameBase*nameBase*nameBase*nameBase - 1
@@ -161,6 +163,19 @@ func isUsedHead(h Head) bool {
 
 func isWithin(n int64, low int64, high int64) bool {
 	return n >= low && n <= high
+}
+
+func isWord(n int64) bool {
+	return isWithin(n, 0, wordBound-1)
+}
+
+func areWords(list []int64) bool {
+	for _, n := range list {
+		if !isWord(n) {
+			return false
+		}
+	}
+	return true
 }
 
 func HeadWord(h Head) IntResult {

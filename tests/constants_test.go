@@ -24,3 +24,14 @@ func TestConstantsOfTheFirstChapter(t *testing.T) {
 		t.Errorf("the bounds are %d", bounds)
 	}
 }
+
+func TestConstantsOfTheDevice(t *testing.T) {
+	kinds := [3]int64{impl.ActStore, impl.ActFlush, impl.ActFence}
+	if kinds != [3]int64{1, 2, 3} {
+		t.Errorf("the kinds of acts are %d", kinds)
+	}
+	bounds := [3]int64{impl.LineWords, impl.MaxLines, impl.MaxActs}
+	if bounds != [3]int64{8, 41, 500} {
+		t.Errorf("the bounds are %d", bounds)
+	}
+}
