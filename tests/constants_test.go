@@ -35,3 +35,10 @@ func TestConstantsOfTheDevice(t *testing.T) {
 		t.Errorf("the bounds are %d", bounds)
 	}
 }
+
+func TestConstantsOfBlocks(t *testing.T) {
+	bounds := [3]int64{impl.FileWords, impl.MaxSize, impl.MaxNumber}
+	if bounds != [3]int64{4, 4, 9999} {
+		t.Errorf("the bounds are %d", bounds)
+	}
+}
