@@ -42,3 +42,13 @@ func TestConstantsOfBlocks(t *testing.T) {
 		t.Errorf("the bounds are %d", bounds)
 	}
 }
+
+func TestConstantsOfTheModel(t *testing.T) {
+	kinds := [8]int64{impl.OpMake, impl.OpWrite, impl.OpCut, impl.OpDrop, impl.OpMove, impl.OpRead, impl.OpList, impl.OpSync}
+	if kinds != [8]int64{1, 2, 3, 4, 5, 6, 7, 8} {
+		t.Errorf("the kinds of ops are %d", kinds)
+	}
+	if impl.MaxItems != 60 {
+		t.Errorf("there may be %d items", impl.MaxItems)
+	}
+}
