@@ -52,3 +52,10 @@ func TestConstantsOfTheModel(t *testing.T) {
 		t.Errorf("there may be %d items", impl.MaxItems)
 	}
 }
+
+func TestConstantsOfChanges(t *testing.T) {
+	kinds := [4]int64{impl.ChangeNode, impl.ChangeData, impl.ChangeGone, impl.ChangeLoose}
+	if kinds != [4]int64{1, 2, 3, 4} {
+		t.Errorf("the kinds of changes are %d", kinds)
+	}
+}

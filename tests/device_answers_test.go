@@ -12,21 +12,26 @@ import (
 )
 
 // span: where the memory of a list begins and ends, with what is kept free behind it.
-func span[E any](list []E) [2]uintptr {
+// reach is where a list stands in memory; a pointer, since what a number alone tells of may be given away meanwhile.
+type reach struct {
+	from  unsafe.Pointer
+	bytes uintptr
+}
+
+func span[E any](list []E) reach {
 	var none E
-	from := uintptr(unsafe.Pointer(unsafe.SliceData(list)))
-	return [2]uintptr{from, from + uintptr(cap(list))*unsafe.Sizeof(none)}
+	return reach{unsafe.Pointer(unsafe.SliceData(list)), uintptr(cap(list)) * unsafe.Sizeof(none)}
 }
 
-func spansOf(d impl.Device) [][2]uintptr {
-	return [][2]uintptr{span(d.Words), span(d.Flights), span(d.Over)}
+func spansOf(d impl.Device) []reach {
+	return []reach{span(d.Words), span(d.Flights), span(d.Over)}
 }
 
-func overlap(a [2]uintptr, b [2]uintptr) bool {
-	return a[0] < b[1] && b[0] < a[1]
+func overlap(a reach, b reach) bool {
+	return uintptr(a.from) < uintptr(b.from)+b.bytes && uintptr(b.from) < uintptr(a.from)+a.bytes
 }
 
-func checkNewMemory(t *testing.T, what string, answer impl.Device, given [][2]uintptr) {
+func checkNewMemory(t *testing.T, what string, answer impl.Device, given []reach) {
 	t.Helper()
 	spans := spansOf(answer)
 	for i, a := range spans {

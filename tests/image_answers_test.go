@@ -54,19 +54,19 @@ func TestNoArgumentOfAnImageFunctionIsChanged(t *testing.T) {
 }
 
 // numberSpans: the memory of the versions themselves, and of the Numbers of each.
-func numberSpans(versions []impl.Version) [][2]uintptr {
-	spans := [][2]uintptr{span(versions)}
+func numberSpans(versions []impl.Version) []reach {
+	spans := []reach{span(versions)}
 	for _, v := range versions {
 		spans = append(spans, span(v.Block.Numbers))
 	}
 	return spans
 }
 
-func spansOfLive(live impl.LiveResult) [][2]uintptr {
-	return slices.Concat(numberSpans(live.Nodes), numberSpans(live.Datas), [][2]uintptr{span(live.Dead)})
+func spansOfLive(live impl.LiveResult) []reach {
+	return slices.Concat(numberSpans(live.Nodes), numberSpans(live.Datas), []reach{span(live.Dead)})
 }
 
-func checkSpansApart(t *testing.T, what string, spans [][2]uintptr) {
+func checkSpansApart(t *testing.T, what string, spans []reach) {
 	t.Helper()
 	for i, a := range spans {
 		for _, b := range spans[:i] {
@@ -82,12 +82,12 @@ func TestEachAnswerOfAnImageIsNewMemory(t *testing.T) {
 		first, second := answersOfImage(words), answersOfImage(words)
 		// All lists of two rounds at once: none of them is the argument's, nor one of another answer.
 		checkSpansApart(t, "the answers of an image", slices.Concat(
-			[][2]uintptr{span(words), span(first.free.List), span(second.free.List)},
+			[]reach{span(words), span(first.free.List), span(second.free.List)},
 			numberSpans(first.versions.Versions), numberSpans(second.versions.Versions),
 			spansOfLive(first.live), spansOfLive(second.live)))
 	}
 	for _, many := range askedLines() {
-		checkSpansApart(t, "FormatActs", [][2]uintptr{span(impl.FormatActs(many).Acts), span(impl.FormatActs(many).Acts)})
+		checkSpansApart(t, "FormatActs", []reach{span(impl.FormatActs(many).Acts), span(impl.FormatActs(many).Acts)})
 	}
 }
 

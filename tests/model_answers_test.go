@@ -144,16 +144,16 @@ func TestNoArgumentOfAModelFunctionIsChanged(t *testing.T) {
 }
 
 // itemSpans: the memory of the items themselves, and of the Data of each.
-func itemSpans(items []impl.Item) [][2]uintptr {
-	spans := [][2]uintptr{span(items)}
+func itemSpans(items []impl.Item) []reach {
+	spans := []reach{span(items)}
 	for _, item := range items {
 		spans = append(spans, span(item.Data))
 	}
 	return spans
 }
 
-func spansOfAnswers(a modelAnswers) [][2]uintptr {
-	return slices.Concat(itemSpans(a.done.Items), [][2]uintptr{span(a.done.Numbers), span(a.done.Names)}, itemSpans(a.run.Items))
+func spansOfAnswers(a modelAnswers) []reach {
+	return slices.Concat(itemSpans(a.done.Items), []reach{span(a.done.Numbers), span(a.done.Names)}, itemSpans(a.run.Items))
 }
 
 func TestEachAnswerOfAModelIsNewMemory(t *testing.T) {
@@ -166,13 +166,13 @@ func TestEachAnswerOfAModelIsNewMemory(t *testing.T) {
 		checkSpansApart(t, "the answers of a model", answers)
 		// The lists of the arguments need not be apart: an op may be asked twice.
 		for _, a := range answers {
-			if slices.ContainsFunc(given, func(b [2]uintptr) bool { return overlap(a, b) }) {
+			if slices.ContainsFunc(given, func(b reach) bool { return overlap(a, b) }) {
 				t.Fatalf("an answer shares memory with an argument: %.300v", asked)
 			}
 		}
 	}
 	for _, words := range askedImages() {
-		checkSpansApart(t, "TreeOf", slices.Concat([][2]uintptr{span(words)}, itemSpans(impl.TreeOf(words).Items), itemSpans(impl.TreeOf(words).Items)))
+		checkSpansApart(t, "TreeOf", slices.Concat([]reach{span(words)}, itemSpans(impl.TreeOf(words).Items), itemSpans(impl.TreeOf(words).Items)))
 	}
 }
 
