@@ -59,3 +59,18 @@ func TestConstantsOfChanges(t *testing.T) {
 		t.Errorf("the kinds of changes are %d", kinds)
 	}
 }
+
+func TestConstantsOfTheWorld(t *testing.T) {
+	events := [6]int64{impl.EvBegin, impl.EvPick, impl.EvDaemon, impl.EvEvict, impl.EvCrash, impl.EvMount}
+	if events != [6]int64{1, 2, 3, 4, 5, 6} {
+		t.Errorf("the kinds of events are %d", events)
+	}
+	notes := [4]int64{impl.NoteBegin, impl.NoteEnd, impl.NoteCrash, impl.NoteUp}
+	if notes != [4]int64{1, 2, 3, 4} {
+		t.Errorf("the kinds of notes are %d", notes)
+	}
+	bounds := [3]int64{impl.MaxThreads, impl.RingRoom, impl.MaxEvents}
+	if bounds != [3]int64{4, 6, 200} {
+		t.Errorf("the bounds are %d", bounds)
+	}
+}

@@ -264,6 +264,11 @@ func treeByRule(words []int64) impl.ItemsResult {
 	if live.Code != 0 {
 		return impl.ItemsResult{Code: live.Code}
 	}
+	return impl.ItemsResult{Items: itemsByRule(live)}
+}
+
+// itemsByRule: what there is, told by nodes and pieces.
+func itemsByRule(live impl.LiveResult) []impl.Item {
 	var items []impl.Item
 	for _, v := range live.Nodes {
 		n := v.Block.Node
@@ -280,7 +285,7 @@ func treeByRule(words []int64) impl.ItemsResult {
 		}
 		items = append(items, item)
 	}
-	return impl.ItemsResult{Items: sortedItems(items)}
+	return sortedItems(items)
 }
 
 func sameItemsByRule(a []impl.Item, b []impl.Item) bool {
