@@ -74,3 +74,10 @@ func TestConstantsOfTheWorld(t *testing.T) {
 		t.Errorf("the bounds are %d", bounds)
 	}
 }
+
+func TestConstantsOfDraining(t *testing.T) {
+	bounds := [2]int64{impl.MaxRounds, impl.SettleRests}
+	if bounds != [2]int64{1000, 5} {
+		t.Errorf("the bounds are %d", bounds)
+	}
+}

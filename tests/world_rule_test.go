@@ -406,17 +406,26 @@ func (w *worldByRule) mount() {
 }
 
 func runWorldByRule(c impl.Config, events []impl.Event) impl.StateResult {
-	if code := configFaultByRule(c); code != 0 {
+	w, code := behindByRule(c, events)
+	if code != 0 {
 		return impl.StateResult{Code: code}
 	}
+	return impl.StateResult{State: w.state()}
+}
+
+// behindByRule: the world behind events, or a code.
+func behindByRule(c impl.Config, events []impl.Event) (*worldByRule, int64) {
+	if code := configFaultByRule(c); code != 0 {
+		return nil, code
+	}
 	if len(events) > 200 {
-		return impl.StateResult{Code: impl.ErrMany}
+		return nil, impl.ErrMany
 	}
 	w := newWorldByRule(c)
 	for _, e := range events {
 		w.take(e)
 	}
-	return impl.StateResult{State: w.state()}
+	return w, 0
 }
 
 func busyByRule(s impl.State) impl.IntsResult {
