@@ -81,3 +81,9 @@ func TestConstantsOfDraining(t *testing.T) {
 		t.Errorf("the bounds are %d", bounds)
 	}
 }
+
+func TestConstantsOfTheAudit(t *testing.T) {
+	if impl.MaxNotes != 600 {
+		t.Errorf("there may be %d notes", impl.MaxNotes)
+	}
+}
