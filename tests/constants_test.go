@@ -87,3 +87,10 @@ func TestConstantsOfTheAudit(t *testing.T) {
 		t.Errorf("there may be %d notes", impl.MaxNotes)
 	}
 }
+
+func TestConstantsOfScripts(t *testing.T) {
+	bounds := [2]int64{impl.MaxScript, impl.MaxLineCount}
+	if bounds != [2]int64{3000, 40} {
+		t.Errorf("the bounds are %d", bounds)
+	}
+}
